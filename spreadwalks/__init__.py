@@ -1,0 +1,1 @@
+"""Graphs that spread: spreadwalks.graph.answers tells what calls on a graph answer."""
