@@ -1,24 +1,26 @@
 """The calls on one graph, and what they answer."""
 
-from spreadwalks.matrix import copied, never_below_zero, walks, zeros
+from spreadwalks.matrix import common_degree, copied, dot, least_share, lines_between, others_than, raised
+from spreadwalks.matrix import sets_of_places, spreads_by, staying_walks, walks, zeros
 
 NO_PLACE = -2
 NOT_BEGUN = -11
 WRONG_NUMBER = -22
 TOO_MANY_LINES = -28
 NOT_EVEN = -33
+ONE_PLACE = -33
 
 MOST_PLACES = 10
 MOST_LINES_BETWEEN = 9
 MOST_LINES_FROM = 12
 MOST_LINES_LAID = 3
 MOST_POWER = 4
+MOST_STEPS = 12
 MOST_Q = 100
 
 BEGIN = 0
 
 # For each call, by its number: how many whole numbers it has, then how many rows.
-# Calls that are not built yet stand here too: -11 is answered to them as well.
 FORMS = (
     (1, 0),  # begin
     (3, 0),  # line
@@ -74,7 +76,7 @@ class Reader:
     def read_given(self, call):
         """What stands behind the call's number: its whole numbers, then each of its rows as a list."""
         given = self.read_numbers(FORMS[call][0])
-        for row in range(FORMS[call][1]):
+        for part in range(FORMS[call][1]):
             size = self.read_number()
             given.append(self.read_numbers(size))
         return given
@@ -85,9 +87,16 @@ def is_place(graph, u):
     return 0 <= u < len(graph.lines)
 
 
+def are_places(graph, places):
+    """Whether these are places, rising: so each stands there once."""
+    if not all([is_place(graph, u) for u in places]):
+        return False
+    return all([u < v for u, v in zip(places, places[1:])])
+
+
 def too_many_from_some(lines):
     """Whether more lines lead from some place than may."""
-    return any([sum(row) > MOST_LINES_FROM for row in lines])
+    return any([sum(counts) > MOST_LINES_FROM for counts in lines])
 
 
 def set_lines(lines, u, v, c):
@@ -96,29 +105,14 @@ def set_lines(lines, u, v, c):
     lines[v][u] = c
 
 
-def common_degree(lines):
-    """How many lines lead from each place, if the graph is even, else 0."""
-    degrees = [sum(row) for row in lines]
-    if min(degrees) == max(degrees):
-        return degrees[0]
-    return 0
-
-
-def spread_matrix(lines, p, q):
-    """The matrix that is never below 0 just if the even graph spreads by p to q."""
-    n = len(lines)
-    d = common_degree(lines)
-    matrix = []
-    for u, counts in enumerate(walks(lines, 2)):
-        row = [q * q * d * d - q * q * n * count for count in counts]
-        row[u] += p * p * d * d * n
-        matrix.append(row)
-    return matrix
-
-
 def are_shares(p, q):
     """Whether p and q are such that a graph may be asked whether it spreads by p to q."""
     return 1 <= q <= MOST_Q and 0 <= p <= q
+
+
+def are_steps(k):
+    """Whether walks of k lines may be asked for."""
+    return 0 <= k <= MOST_STEPS
 
 
 def begin(graph, given):
@@ -226,9 +220,126 @@ def spreads(graph, given):
         return [WRONG_NUMBER]
     if common_degree(graph.lines) == 0:
         return [NOT_EVEN]
-    if never_below_zero(spread_matrix(graph.lines, p, q)):
-        return [1]
-    return [0]
+    return [1 if spreads_by(graph.lines, p, q) else 0]
+
+
+def least(graph, given):
+    """Answer least: q."""
+    q = given[0]
+    # p 0 is right for each q that is.
+    if not are_shares(0, q):
+        return [WRONG_NUMBER]
+    if common_degree(graph.lines) == 0:
+        return [NOT_EVEN]
+    return [least_share(graph.lines, q)]
+
+
+def between(graph, given):
+    """Answer between: two rows of places."""
+    ones = given[0]
+    others = given[1]
+    if not are_places(graph, ones) or not are_places(graph, others):
+        return [WRONG_NUMBER]
+    count = lines_between(graph.lines, ones, others)
+    d = common_degree(graph.lines)
+    if d == 0:
+        return [count]
+    return [count, abs(len(graph.lines) * count - d * len(ones) * len(others))]
+
+
+def staying(graph, given):
+    """Answer staying: k, a row of places."""
+    k = given[0]
+    places = given[1]
+    if not are_steps(k) or not are_places(graph, places):
+        return [WRONG_NUMBER]
+    counts = staying_walks(graph.lines, places, k)
+    return [sum(counts)] + counts
+
+
+def bound(graph, given):
+    """Answer bound: k, p, q, a row of places."""
+    k = given[0]
+    p = given[1]
+    q = given[2]
+    places = given[3]
+    if not are_steps(k) or not are_shares(p, q) or not are_places(graph, places):
+        return [WRONG_NUMBER]
+    d = common_degree(graph.lines)
+    if d == 0:
+        return [NOT_EVEN]
+    n = len(graph.lines)
+    b = len(places)
+    spread = 1 if spreads_by(graph.lines, p, q) else 0
+    return [spread, raised(d, k) * b * raised(b * q + p * (n - b), k), raised(n * q, k)]
+
+
+def led_from(graph, given):
+    """Answer from: u, k."""
+    u = given[0]
+    k = given[1]
+    if not is_place(graph, u):
+        return [NO_PLACE]
+    if not are_steps(k):
+        return [WRONG_NUMBER]
+    return [len(graph.lines)] + walks(graph.lines, k)[u]
+
+
+def uneven(graph, given):
+    """Answer uneven: u, k, p, q."""
+    u = given[0]
+    k = given[1]
+    p = given[2]
+    q = given[3]
+    if not is_place(graph, u):
+        return [NO_PLACE]
+    if not are_steps(k) or not are_shares(p, q):
+        return [WRONG_NUMBER]
+    d = common_degree(graph.lines)
+    if d == 0:
+        return [NOT_EVEN]
+    n = len(graph.lines)
+    off = [n * count - raised(d, k) for count in walks(graph.lines, k)[u]]
+    squares = dot(off, off)
+    most = raised(p, 2 * k) * raised(d, 2 * k) * n * (n - 1)
+    return [1 if squares * raised(q, 2 * k) <= most else 0, squares]
+
+
+def count_leaving(graph, places):
+    """How many lines lead from these places to others."""
+    return lines_between(graph.lines, places, others_than(graph.lines, places))
+
+
+def thinnest(graph, given):
+    """Answer thinnest, to which nothing is given."""
+    n = len(graph.lines)
+    if n == 1:
+        return [ONE_PLACE]
+    thin = []
+    for number, places in enumerate(sets_of_places(n)):
+        size = len(places)
+        if 1 <= size and 2 * size <= n:
+            count = count_leaving(graph, places)
+            # Sets come by rising number: of like ones the first one is kept.
+            if not thin or count * thin[1] < thin[0] * size:
+                thin = [count, size, number]
+    return thin
+
+
+def leaving(graph, given):
+    """Answer leaving: a row of places."""
+    places = given[0]
+    if not are_places(graph, places):
+        return [WRONG_NUMBER]
+    return [count_leaving(graph, places), len(places)]
+
+
+def row(graph, given):
+    """Answer row: u."""
+    u = given[0]
+    if not is_place(graph, u):
+        return [NO_PLACE]
+    return [sum(graph.lines[u])] + graph.lines[u]
 
 
 # What answers each call, by the call's number.
@@ -242,6 +353,15 @@ CALLS = {
     6: degree,
     7: even,
     8: spreads,
+    9: least,
+    10: between,
+    11: staying,
+    12: bound,
+    13: led_from,
+    14: uneven,
+    15: thinnest,
+    16: leaving,
+    17: row,
 }
 
 

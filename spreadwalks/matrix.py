@@ -1,4 +1,4 @@
-"""Square matrices of whole numbers, as lists of rows."""
+"""Square matrices of whole numbers, as lists of rows; a graph's lines, counted between each two places, are one."""
 
 
 def zeros(n):
@@ -75,3 +75,80 @@ def never_below_zero(matrix):
         else:
             rest = behind_first(rest)
     return True
+
+
+def raised(base, k):
+    """The base to the power of k; to the power of 0 it is 1, whatever the base."""
+    number = 1
+    for step in range(k):
+        number *= base
+    return number
+
+
+def common_degree(lines):
+    """How many lines lead from each place, if the graph is even, else 0."""
+    degrees = [sum(row) for row in lines]
+    if min(degrees) == max(degrees):
+        return degrees[0]
+    return 0
+
+
+def spread_matrix(lines, p, q):
+    """The matrix that is never below 0 just if the even graph spreads by p to q."""
+    n = len(lines)
+    d = common_degree(lines)
+    matrix = []
+    for u, counts in enumerate(walks(lines, 2)):
+        row = [q * q * d * d - q * q * n * count for count in counts]
+        row[u] += p * p * d * d * n
+        matrix.append(row)
+    return matrix
+
+
+def spreads_by(lines, p, q):
+    """Whether the even graph spreads by p to q."""
+    return never_below_zero(spread_matrix(lines, p, q))
+
+
+def least_share(lines, q):
+    """The least p such that the even graph spreads by p to q."""
+    low = 0
+    # An even graph spreads by q to q, and where it spreads by p it does so by each greater one.
+    high = q
+    while low < high:
+        middle = (low + high) // 2
+        if spreads_by(lines, middle, q):
+            high = middle
+        else:
+            low = middle + 1
+    return low
+
+
+def lines_between(lines, ones, others):
+    """How many lines lead from one of the first places to one of the others, counted from each first one."""
+    count = 0
+    for u in ones:
+        count += sum([lines[u][v] for v in others])
+    return count
+
+
+def others_than(lines, places):
+    """All places but these."""
+    return [u for u in range(len(lines)) if u not in places]
+
+
+def staying_walks(lines, places, k):
+    """How many walks of k lines that stay among these places begin at each place."""
+    inside = [1 if u in places else 0 for u in range(len(lines))]
+    counts = inside
+    for step in range(k):
+        counts = [inside[u] * dot(lines[u], counts) for u in range(len(lines))]
+    return counts
+
+
+def sets_of_places(n):
+    """All sets of n places, as rising lists; each stands at its number, to which place u counts 2 to the power of u."""
+    sets = [[]]
+    for u in range(n):
+        sets = sets + [places + [u] for places in sets]
+    return sets

@@ -1,5 +1,7 @@
 """What the tests share: calls by name, graphs read back, and a second way to tell whether a graph spreads."""
 
+import unittest
+
 from spreadwalks.graph import answers
 
 NUMBERS = {
@@ -41,19 +43,41 @@ def parted(told):
     return parts
 
 
-def ask(*calls):
-    """The first number answered to each call; all calls of stage 1 answer just one."""
+def tell(*calls):
+    """All numbers that are answered to each call, as one list for each."""
     if not 1 <= len(calls) <= 60:
         raise ValueError("a list holds 1 to 60 calls")
     parts = parted(answers(flat(calls)))
-    if len(parts) != len(calls) or any(len(part) != 1 for part in parts):
+    if len(parts) != len(calls):
+        raise ValueError("not one answer for each call: " + repr(parts))
+    return parts
+
+
+def ask(*calls):
+    """The one number that is answered to each call."""
+    parts = tell(*calls)
+    if any(len(part) != 1 for part in parts):
         raise ValueError("not one number for each call: " + repr(parts))
     return [part[0] for part in parts]
 
 
 def last(*calls):
-    """What the last of the calls answers."""
+    """The one number that the last of the calls answers."""
     return ask(*calls)[-1]
+
+
+def tell_last(*calls):
+    """All numbers that the last of the calls answers."""
+    return tell(*calls)[-1]
+
+
+def tell_each(before, asked):
+    """All numbers that each call answers behind the calls before, which are laid anew for as many as have room."""
+    room = 60 - len(before)
+    told = []
+    for start in range(0, len(asked), room):
+        told.extend(tell(*before, *asked[start:start + room])[len(before):])
+    return told
 
 
 def lines_after(n, *calls):
@@ -62,8 +86,15 @@ def lines_after(n, *calls):
     for u in range(n):
         # One object for each row: to be told of a line is to take it away.
         taken = [("line", u, v, 0) for v in range(n)]
-        rows.append(ask(*calls, *taken)[len(calls):])
+        rows.append([part[0] for part in tell(*calls, *taken)[len(calls):]])
     return rows
+
+
+class Refusing(unittest.TestCase):
+    def refuses(self, n, before, refused, number):
+        """The call is answered by that number alone, and the graph is the same behind it."""
+        self.assertEqual(tell_last(*before, refused), [number], refused)
+        self.assertEqual(lines_after(n, *before, refused), lines_after(n, *before), refused)
 
 
 def laid(rows):

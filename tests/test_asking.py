@@ -1,39 +1,11 @@
-"""Promise 2, as far as degree, even and spreads."""
+"""Promise 2: degree, row, even, spreads, least."""
 
 import itertools
 import unittest
 
-from tests.asking import HIGH, LOW, ask, circulant, laid, last, lines_after, spreads_by, walked
-
-# Outer ring, spokes, inner star: from each place three lines lead; d 3, the others 1 and -2.
-PETERSEN = [[0] * 10 for place in range(10)]
-for place in range(5):
-    for one, other in ((place, (place + 1) % 5), (place, place + 5), (place + 5, (place + 2) % 5 + 5)):
-        PETERSEN[one][other] = 1
-        PETERSEN[other][one] = 1
-
-# Three places on each side, each bound to all of the other side.
-SIDES = [[int((u < 3) != (v < 3)) for v in range(6)] for u in range(6)]
-
-# A triangle, and a place by itself with two lines to itself: two parts with no line between them.
-PARTS = [[0, 1, 1, 0], [1, 0, 1, 0], [1, 1, 0, 0], [0, 0, 0, 2]]
-
-# Two places alike, both bound to a third one: 6, then 4 and 0.
-ALIKE = [[4, 0, 2], [0, 4, 2], [2, 2, 2]]
-
-# Parts of different sizes; the places of the first ones alone are 0 together and stay so.
-MORE_PARTS = (
-    [[5, 1, 0], [1, 5, 0], [0, 0, 6]],
-    [[5, 0, 0, 0], [0, 5, 0, 0], [0, 0, 2, 3], [0, 0, 3, 2]],
-    [[1, 0, 0, 0, 1], [0, 0, 0, 1, 1], [0, 0, 2, 0, 0], [0, 1, 0, 1, 0], [1, 1, 0, 0, 0]],
-    [[0, 2, 0, 0, 0], [2, 0, 0, 0, 0], [0, 0, 0, 1, 1], [0, 0, 1, 0, 1], [0, 0, 1, 1, 0]],
-)
-
-
-def renumbered(rows, order):
-    """The same graph with its places in another order."""
-    return [[rows[u][v] for v in order] for u in order]
-
+from tests.asking import HIGH, LOW, Refusing, ask, circulant, laid, last, lines_after, spreads_by, tell, tell_each
+from tests.asking import tell_last
+from tests.graphs import ALIKE, MORE_PARTS, NOT_EVEN, PARTS, PETERSEN, SIDES, TWELVE, even_graphs, renumbered
 
 def spreads(calls, p, q):
     return last(*calls, ("spreads", p, q))
@@ -70,6 +42,39 @@ class Degree(unittest.TestCase):
             for u in (LOW, -1, n, n + 1, HIGH):
                 self.assertEqual(last(*before, ("degree", u)), -2)
                 self.assertEqual(lines_after(n, *before, ("degree", u)), lines_after(n, *before))
+
+
+class Row(Refusing):
+    def test_by_hand(self):
+        before = [("begin", 4), ("line", 0, 1, 4), ("line", 1, 1, 2), ("line", 1, 2, 6)]
+        told = tell(*before, *[("row", u) for u in range(4)])[4:]
+        self.assertEqual(told, [[4, 0, 4, 0, 0], [12, 4, 2, 6, 0], [6, 0, 6, 0, 0], [0, 0, 0, 0, 0]])
+
+    def test_built_graphs(self):
+        self.assertEqual(tell_last(("begin", 5), ("ring", 3), ("row", 4)), [6, 3, 0, 0, 3, 0])
+        self.assertEqual(tell_last(("begin", 3), ("whole", 2), ("row", 1)), [4, 2, 0, 2])
+        self.assertEqual(tell_last(("begin", 8), ("cube",), ("row", 5)), [3, 0, 1, 0, 0, 1, 0, 0, 1])
+        self.assertEqual(tell_last(("begin", 4), ("cube",), ("power", 2), ("row", 0)), [4, 2, 0, 0, 2])
+        # A power may leave more than nine lines between two.
+        self.assertEqual(tell_last(*laid([[0, 3, 1], [3, 0, 0], [1, 0, 0]]), ("power", 2), ("row", 0)), [10, 10, 0, 0])
+
+    def test_no_lines_and_one_place(self):
+        for n in range(1, 11):
+            self.assertEqual(tell_last(("begin", n), ("row", n - 1)), [0] * (n + 1))
+        self.assertEqual(tell_last(("begin", 1), ("line", 0, 0, 7), ("row", 0)), [7, 7])
+
+    def test_each_place_of_many_graphs(self):
+        for rows in even_graphs() + list(NOT_EVEN):
+            told = tell_each(laid(rows), [("row", u) for u in range(len(rows))])
+            self.assertEqual(told, [[sum(counts)] + counts for counts in rows])
+
+    def test_no_such_place(self):
+        for n in (1, 3, 10):
+            before = [("begin", n), ("line", 0, 0, 2), ("line", 0, n - 1, 3)]
+            for u in (LOW, -n, -1, n, n + 1, HIGH):
+                self.refuses(n, before, ("row", u), -2)
+            for u in (0, n - 1):
+                self.assertEqual(len(tell_last(*before, ("row", u))), n + 1)
 
 
 class Even(unittest.TestCase):
@@ -225,40 +230,22 @@ class SpreadsByHand(unittest.TestCase):
 
 
 class SpreadsAnotherWay(unittest.TestCase):
-    def graphs(self):
-        """Even graphs of every size, as rows, laid by few enough calls."""
-        found = [PETERSEN, SIDES, PARTS, ALIKE, walked(PETERSEN, 2)] + list(MORE_PARTS)
-        for n in range(1, 11):
-            for counts in itertools.product((0, 1, 2), repeat=min(n // 2 + 1, 3)):
-                if any(counts):
-                    found.append(circulant(n, counts))
-        # Sums of places exchanged in pairs or turned about: even, but the same from no two places.
-        turns = ((1, 0, 3, 2, 4, 5), (0, 2, 1, 4, 3, 5), (5, 1, 3, 2, 4, 0))
-        for times in itertools.product((0, 1, 3), repeat=3):
-            rows = [[0] * 6 for u in range(6)]
-            for turn, count in zip(turns, times):
-                for u in range(6):
-                    rows[u][turn[u]] += count
-            if any(times):
-                found.append(rows)
-        return found
-
     def test_by_the_definition(self):
         pairs = [(0, 1), (1, 1), (1, 2), (1, 3), (2, 3), (3, 4), (100, 100), (0, 100)]
         pairs += [(p, 100) for p in (12, 34, 50, 61, 66, 80, 81, 90, 95, 99)]
-        for rows in self.graphs():
+        for rows in even_graphs():
             calls = laid(rows)
             told = ask(*calls, *[("spreads", p, q) for p, q in pairs])
             expected = [0] * len(calls) + [int(spreads_by(rows, p, q)) for p, q in pairs]
             self.assertEqual(told, expected, rows)
 
     def test_q_to_q_always(self):
-        for rows in self.graphs():
+        for rows in even_graphs():
             calls = laid(rows)
             self.assertEqual(ask(*calls, ("spreads", 1, 1), ("spreads", 97, 97))[-2:], [1, 1], rows)
 
     def test_a_power_spreads_by_powers(self):
-        for rows in self.graphs():
+        for rows in even_graphs():
             calls = laid(rows)
             for k, q in ((2, 10), (2, 7), (3, 4), (4, 3)):
                 powered = calls + [("power", k)]
@@ -284,6 +271,65 @@ class SpreadsAnotherWay(unittest.TestCase):
                 moved = [sum(rows[u][v] * x[v] for v in range(n)) for u in range(n)]
                 reached.append((sum(a * a for a in moved), sum(a * a for a in x) * d * d))
         return [(p, q) for p, q in ((1, 3), (1, 2), (1, 1)) if all(a * q * q <= b * p * p for a, b in reached)][0]
+
+
+class Least(Refusing):
+    def leasts(self, calls, expected):
+        told = ask(*calls, *[("least", q) for q in expected])[len(calls):]
+        self.assertEqual(told, list(expected.values()), calls)
+
+    def test_by_hand(self):
+        self.leasts([("begin", 1), ("line", 0, 0, 5)], {1: 0, 2: 0, 100: 0})
+        self.leasts([("begin", 2), ("line", 0, 1, 9)], {1: 1, 3: 3, 100: 100})
+        self.leasts([("begin", 2), ("line", 0, 1, 2), ("line", 0, 0, 1), ("line", 1, 1, 1)], {1: 1, 3: 1, 99: 33, 100: 34})
+        self.leasts([("begin", 3), ("ring", 2)], {1: 1, 2: 1, 3: 2, 99: 50, 100: 50})
+        self.leasts([("begin", 5), ("ring", 1)], {1: 1, 5: 5, 10: 9, 100: 81})
+        self.leasts([("begin", 6), ("ring", 3)], {1: 1, 50: 50, 100: 100})
+        self.leasts(laid(circulant(6, [1, 1])), {1: 1, 3: 2, 99: 66, 100: 67})
+        self.leasts([("begin", 7), ("whole", 2)], {1: 1, 6: 1, 7: 2, 100: 17})
+        self.leasts([("begin", 8), ("cube",)], {1: 1, 100: 100})
+        self.leasts(laid(PETERSEN), {1: 1, 3: 2, 99: 66, 100: 67})
+        self.leasts(laid(PETERSEN) + [("power", 2)], {9: 4, 100: 45})
+        self.leasts(laid(PARTS), {1: 1, 100: 100})
+        self.leasts(laid(ALIKE), {2: 2, 3: 2, 100: 67})
+        self.leasts(laid(TWELVE), {6: 1, 99: 17, 100: 17})
+
+    def test_all_with_all_and_with_itself(self):
+        for n, c in ((2, 6), (4, 3), (5, 1), (6, 2)):
+            self.leasts(laid([[c] * n for u in range(n)]), {1: 0, 2: 0, 100: 0})
+
+    def test_by_asking_spreads_at_each_p(self):
+        for rows in even_graphs()[::2] + [TWELVE]:
+            calls = laid(rows)
+            for q in (1, 2, 3, 10, 29):
+                self.assertEqual(last(*calls, ("least", q)), least_by_asking(calls, q), (rows, q))
+        for rows in even_graphs()[::7]:
+            self.assertEqual(last(*laid(rows), ("least", 100)), least_by_asking(laid(rows), 100), rows)
+
+    def test_by_the_definition(self):
+        for rows in even_graphs():
+            for q in (1, 13, 100):
+                p = last(*laid(rows), ("least", q))
+                self.assertTrue(0 <= p <= q, (rows, q))
+                self.assertTrue(spreads_by(rows, p, q), (rows, q))
+                self.assertFalse(p > 0 and spreads_by(rows, p - 1, q), (rows, q))
+
+    def test_each_q(self):
+        # 1 over 4, 1 over 3, half: rounded up.
+        for n in (3, 4, 5):
+            told = tell_each([("begin", n), ("whole", 1)], [("least", q) for q in range(1, 101)])
+            self.assertEqual(told, [[-(-q // (n - 1))] for q in range(1, 101)])
+
+    def test_q_at_the_edges(self):
+        for before in ([("begin", 3), ("ring", 1)], [("begin", 3), ("line", 0, 1, 1)], [("begin", 3)]):
+            for q in (LOW, -100, -1, 0, 101, 102, HIGH):
+                self.refuses(3, before, ("least", q), -22)
+        self.assertEqual([last(("begin", 4), ("ring", 1), ("least", q)) for q in (1, 100)], [1, 100])
+
+    def test_not_even(self):
+        for rows in NOT_EVEN:
+            for q in (1, 50, 100):
+                self.refuses(len(rows), laid(rows), ("least", q), -33)
 
 
 if __name__ == "__main__":

@@ -2,18 +2,11 @@
 
 import unittest
 
-from tests.asking import HIGH, LOW, ask, circulant, laid, last, lines_after, walked
+from tests.asking import HIGH, LOW, Refusing, ask, circulant, laid, last, lines_after, walked
 
 
 def nothing(n):
     return [[0] * n for u in range(n)]
-
-
-class Refusing(unittest.TestCase):
-    def refuses(self, n, before, refused, number):
-        """The call is answered by that number, and the graph is the same behind it."""
-        self.assertEqual(last(*before, refused), number, refused)
-        self.assertEqual(lines_after(n, *before, refused), lines_after(n, *before), refused)
 
 
 class Begin(Refusing):
